@@ -1,0 +1,1 @@
+"""Vatyard: vats and pipes, wants met as soon as can be."""
