@@ -1,9 +1,9 @@
 """Finds where files of the package leave the rules of LANGUAGE.md.
 
 `faults(sources)` takes a dict of file names (as they lie in the package's
-folder) to their texts, and tells a sorted list of (rule, file, line). What no
-look at the code can tell (L11's depth of recursion, L9's purity beyond names)
-is left to readers.
+folder) to their texts, and tells a sorted list of (rule, file, line). It finds
+what is plain from the code's form, which is not all that the rules say: how deep
+a recursion goes (L11), say, or what an annotation holds (L4), is left to readers.
 """
 
 import ast

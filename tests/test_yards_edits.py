@@ -1,4 +1,4 @@
-"""Points 6 and 7: every text that is one sign away from a yard's text.
+"""Points 6 and 7: every text that is one sign, or one row, away from some yards' texts.
 
 What is asked is reckoned here a second time, by patterns, from the document.
 """
@@ -9,7 +9,8 @@ import unittest
 from vatyard.errors import NoMeasure, NoName, NoRow, YardError
 from vatyard.yards import read, shown
 
-SIGNS = "\n !+-./0126789:@AZ[`abcklpvz{~"
+# All that texts are made of: from the blank to ~ but the percent sign, and line feeds.
+SIGNS = ["\n"] + [chr(code) for code in range(32, 127) if chr(code) != "%"]
 NAME = "([a-z]{1,8})"
 NUMBER = "(0|[1-9][0-9]{0,12})"
 VAT = f"vat {NAME} {NUMBER} {NUMBER}"
