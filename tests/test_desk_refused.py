@@ -252,7 +252,8 @@ class OutOfBounds(OfRefusals):
 
     def test_vats_and_pipes(self):
         for row in ("vat c 1000000000001 0", "vat c 9 10", "vat c 0 1", "pipe a b 0 6 steady 7",
-                    "pipe a b 21 6 steady 7", "pipe a b 5 1000001 steady 7", "pipe a b 5 6 steady 0", "pipe a b 5 6 steady 1000000000001",
+                    "pipe a b 21 6 steady 7", "pipe a b 5 1000001 steady 7", "pipe a b 5 6 steady 0",
+                    "pipe a b 5 6 steady 1000000000001",
                     "pipe a b 5 6 late 0 8", "pipe a b 5 6 late 1000000000001 8", "pipe a b 5 6 late 7 61",
                     "pipe a b 5 6 tidal 0 8 9", "pipe a b 5 6 tidal 7 0 9", "pipe a b 5 6 tidal 7 8 1",
                     "pipe a b 5 6 tidal 7 8 21", "pipe a b 5 6 tidal 7 1000000000001 9", "pipe a a 5 6 steady 7",
